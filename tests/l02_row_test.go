@@ -1,6 +1,7 @@
 package tests
 
 import (
+	"cmp"
 	"math"
 	"slices"
 	"strings"
@@ -126,19 +127,7 @@ func TestCompareRowsOfEveryPairInOrder(t *testing.T) {
 			}
 		}
 	}
-	for i, a := range ascending {
-		for j, b := range ascending {
-			want := 0
-			if i < j {
-				want = -1
-			} else if i > j {
-				want = 1
-			}
-			if got := impl.CompareRows(a, b); got != want {
-				t.Fatalf("CompareRows(%v, %v) = %d, want %d", a, b, got, want)
-			}
-		}
-	}
+	expectAscending(t, "CompareRows", ascending, impl.CompareRows)
 }
 
 func TestFormatRowExamples(t *testing.T) {
@@ -336,6 +325,19 @@ func TestParseRowsReturnsNewMemory(t *testing.T) {
 		t.Error("two results share memory")
 	}
 	expectRows(t, s, want, true)
+}
+
+// expectAscending compares every two of the elements, which are all different
+// and in ascending order.
+func expectAscending[T any](t *testing.T, what string, ascending []T, compare func(T, T) int) {
+	t.Helper()
+	for i, a := range ascending {
+		for j, b := range ascending {
+			if got, want := compare(a, b), cmp.Compare(i, j); got != want {
+				t.Fatalf("%s(%v, %v) = %d, want %d", what, a, b, got, want)
+			}
+		}
+	}
 }
 
 func expectRow(t *testing.T, s string, want impl.Row, wantOK bool) {

@@ -84,7 +84,7 @@ func TestMultisetOfNoRows(t *testing.T) {
 func TestMultisetFunctionsOfEveryShortSlice(t *testing.T) {
 	ascending := ascendingRows()
 	for _, places := range placesUpTo(4, len(ascending)) {
-		rows := rowsAt(ascending, places)
+		rows := elementsAt(ascending, places)
 		counts := countPlaces(places, len(ascending))
 		expectSorted(t, rows, repeatEach(ascending, counts))
 		expectDistinct(t, rows, repeatEach(ascending, upToOne(counts)))
@@ -114,7 +114,7 @@ func expectPairs(t *testing.T, ascending []impl.Row, all [][]int) {
 			for i := range more {
 				more[i] = max(countsOfA[i]-countsOfB[i], 0)
 			}
-			rowsOfA, rowsOfB := rowsAt(ascending, a), rowsAt(ascending, b)
+			rowsOfA, rowsOfB := elementsAt(ascending, a), elementsAt(ascending, b)
 			expectDifference(t, rowsOfA, rowsOfB, repeatEach(ascending, more))
 			if got := impl.EqualBags(rowsOfA, rowsOfB); got != slices.Equal(countsOfA, countsOfB) {
 				t.Fatalf("EqualBags(%v, %v) = %v", rowsOfA, rowsOfB, got)
@@ -324,12 +324,12 @@ func placesUpTo(length int, limit int) [][]int {
 	return all
 }
 
-func rowsAt(ascending []impl.Row, places []int) []impl.Row {
-	var rows []impl.Row
+func elementsAt[T any](elements []T, places []int) []T {
+	var chosen []T
 	for _, place := range places {
-		rows = append(rows, ascending[place])
+		chosen = append(chosen, elements[place])
 	}
-	return rows
+	return chosen
 }
 
 func countPlaces(places []int, limit int) []int {
