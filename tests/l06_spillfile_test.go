@@ -729,15 +729,24 @@ func expectReadableIfSame(t *testing.T, disk impl.Disk, original impl.Disk) {
 // one of an argument, have an element in common, used or unused.
 func expectNewMemory(t *testing.T, result impl.Disk, arguments ...impl.Disk) {
 	t.Helper()
-	taken := map[any]bool{}
+	var elements []any
 	for _, argument := range arguments {
-		for _, element := range elementsOf(argument) {
-			taken[element] = true
-		}
+		elements = append(elements, elementsOf(argument)...)
 	}
-	for _, element := range elementsOf(result) {
+	expectApart(t, elementsOf(result), elements)
+}
+
+// expectApart looks whether an element occurs twice in the result, or in the
+// result and in an argument. The elements are compared as pointers.
+func expectApart(t *testing.T, result []any, arguments []any) {
+	t.Helper()
+	taken := map[any]bool{}
+	for _, element := range arguments {
+		taken[element] = true
+	}
+	for _, element := range result {
 		if taken[element] {
-			t.Fatalf("a slice of the result %v shares memory", result)
+			t.Fatalf("a slice of a result shares the memory of %v", element)
 		}
 		taken[element] = true
 	}
@@ -746,21 +755,23 @@ func expectNewMemory(t *testing.T, result impl.Disk, arguments ...impl.Disk) {
 // elementsOf returns pointers to all elements of all slices of the disk,
 // used and unused. The slices in unused elements do not count.
 func elementsOf(disk impl.Disk) []any {
-	var elements []any
-	for i := range disk.Files[:cap(disk.Files)] {
-		elements = append(elements, &disk.Files[:cap(disk.Files)][i])
-	}
+	elements := pointersTo(disk.Files)
 	for _, file := range disk.Files {
-		for i := range file.Pages[:cap(file.Pages)] {
-			elements = append(elements, &file.Pages[:cap(file.Pages)][i])
-		}
+		elements = append(elements, pointersTo(file.Pages)...)
 		for _, page := range file.Pages {
-			for i := range page.Rows[:cap(page.Rows)] {
-				elements = append(elements, &page.Rows[:cap(page.Rows)][i])
-			}
+			elements = append(elements, pointersTo(page.Rows)...)
 		}
 	}
 	return elements
+}
+
+// pointersTo returns pointers to all elements, used and unused.
+func pointersTo[T any](elements []T) []any {
+	var pointers []any
+	for i := range elements[:cap(elements)] {
+		pointers = append(pointers, &elements[:cap(elements)][i])
+	}
+	return pointers
 }
 
 // dumpDisk returns all numbers of the disk, with those in unused capacity.
@@ -805,15 +816,20 @@ func slackDisk(disk impl.Disk) impl.Disk {
 		for j, page := range file.Pages {
 			slack.Files[i].Pages[j].Rows = slackRows(page.Rows)
 		}
-		slack.Files[i].Pages = append(slices.Clip(slack.Files[i].Pages), unused.Pages[0], unused.Pages[0])[:len(file.Pages)]
+		slack.Files[i].Pages = withUnused(slack.Files[i].Pages, unused.Pages[0])
 	}
-	slack.Files = append(slices.Clip(slack.Files), unused, unused)[:len(slack.Files)]
+	slack.Files = withUnused(slack.Files, unused)
 	return slack
 }
 
 func slackRows(rows []impl.Row) []impl.Row {
-	unused := impl.Row{Key: 77, Value: 77, Width: 77}
-	return append(slices.Clone(rows), unused, unused)[:len(rows)]
+	return withUnused(rows, impl.Row{Key: 77, Value: 77, Width: 77})
+}
+
+// withUnused returns the elements in new memory with two unused ones behind
+// them.
+func withUnused[T any](elements []T, unused T) []T {
+	return append(slices.Clone(elements), unused, unused)[:len(elements)]
 }
 
 // sharingDisk returns the disk with all pages, and with all rows of all
