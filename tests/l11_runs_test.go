@@ -261,22 +261,8 @@ func TestRunsOfEveryOrderOfRows(t *testing.T) {
 }
 
 func TestRunsOfLongInputs(t *testing.T) {
-	state := 11
-	random := func(limit int) int {
-		state = state * 48271 % 2147483647
-		return state / 64 % limit
-	}
 	for memory := 8; memory <= 60; memory++ {
-		for count := range 25 {
-			expectSimulatedRuns(t, manyRows(count), memory)
-		}
-		for range 100 {
-			// Few of the limits, so that some rows are equal and some wide.
-			keys, values, widths := 1+random(10), 1+random(100), 1+random(4)
-			rows := make([]impl.Row, 15+random(10))
-			for i := range rows {
-				rows[i] = impl.Row{Key: random(keys), Value: random(values), Width: 3 - random(widths)}
-			}
+		for _, rows := range longInputs(memory) {
 			expectSimulatedRuns(t, rows, memory)
 		}
 	}
@@ -633,6 +619,30 @@ func built(t *testing.T, rows []impl.Row, memory int) []impl.Run {
 		t.Fatalf("BuildRuns(%v, %d) fails", rows, memory)
 	}
 	return runs
+}
+
+// longInputs returns up to 24 rows, often equal or wide ones. Most of them
+// depend on the seed.
+func longInputs(seed int) [][]impl.Row {
+	var inputs [][]impl.Row
+	for count := range 25 {
+		inputs = append(inputs, manyRows(count))
+	}
+	state := seed
+	random := func(limit int) int {
+		state = state * 48271 % 2147483647
+		return state / 64 % limit
+	}
+	for range 100 {
+		// Few of the limits, so that some rows are equal and some wide.
+		keys, values, widths := 1+random(10), 1+random(100), 1+random(4)
+		rows := make([]impl.Row, 15+random(10))
+		for i := range rows {
+			rows[i] = impl.Row{Key: random(keys), Value: random(values), Width: 3 - random(widths)}
+		}
+		inputs = append(inputs, rows)
+	}
+	return inputs
 }
 
 // The places where a simulation keeps a row.
